@@ -1,0 +1,114 @@
+package tests
+
+import (
+	"fmt"
+	"math"
+	"reflect"
+	"testing"
+)
+
+// dice gives the same numbers in every run, so that a failure can be had again.
+type dice struct{ at uint64 }
+
+func (d *dice) below(n int) int {
+	d.at = d.at*6364136223846793005 + 1442695040888963407
+	return int((d.at >> 33) % uint64(n))
+}
+
+// farNumbers are those that no list has.
+var farNumbers = []int{math.MinInt, -1000, -2, 1000, math.MaxInt}
+
+// shown writes values out whole; an empty list and nil are shown alike.
+func shown(vs ...any) string {
+	out := ""
+	for _, v := range vs {
+		out += fmt.Sprintf("%+v;", v)
+	}
+	return out
+}
+
+func check(t *testing.T, got, want string, what ...any) {
+	t.Helper()
+	if got != want {
+		t.Fatalf("%.2000s\n got: %.2000s\nwant: %.2000s", shown(what...), got, want)
+	}
+}
+
+// shownWithRoom writes values out with what lies behind the length of each list.
+func shownWithRoom(vs ...any) string {
+	out := ""
+	for _, v := range vs {
+		eachList(reflect.ValueOf(v), func(l reflect.Value) {
+			out += fmt.Sprintf("%d of %v;", l.Len(), l.Slice(0, l.Cap()))
+		})
+		out += shown(v)
+	}
+	return out
+}
+
+// eachList visits each list in v, and those in the room behind a list, too.
+func eachList(v reflect.Value, visit func(reflect.Value)) {
+	switch v.Kind() {
+	case reflect.Struct:
+		for i := range v.NumField() {
+			eachList(v.Field(i), visit)
+		}
+	case reflect.Slice:
+		visit(v)
+		all := v.Slice(0, v.Cap())
+		for i := range all.Len() {
+			eachList(all.Index(i), visit)
+		}
+	}
+}
+
+type area struct{ from, to uintptr }
+
+// areas gives the memory of each list in the values, the room behind it with it.
+func areas(vs ...any) []area {
+	var out []area
+	for _, v := range vs {
+		eachList(reflect.ValueOf(v), func(l reflect.Value) {
+			if size := uintptr(l.Cap()) * l.Type().Elem().Size(); size > 0 {
+				out = append(out, area{l.Pointer(), l.Pointer() + size})
+			}
+		})
+	}
+	return out
+}
+
+func overlap(a, b area) bool { return a.from < b.to && b.from < a.to }
+
+// checkOwnMemory fails if a list of the answers shares memory with one of the
+// arguments or with another one of the answers.
+func checkOwnMemory(t *testing.T, what string, answers, arguments []any) {
+	t.Helper()
+	mine, theirs := areas(answers...), areas(arguments...)
+	for i, m := range mine {
+		for _, a := range theirs {
+			if overlap(m, a) {
+				t.Fatalf("%s: an answer shares memory with an argument", what)
+			}
+		}
+		for _, o := range mine[:i] {
+			if overlap(m, o) {
+				t.Fatalf("%s: two lists of an answer share memory", what)
+			}
+		}
+	}
+}
+
+// checkRoomIsZero fails if anything stands behind the length of an answer's list:
+// it could only be handed out from behind an argument's.
+func checkRoomIsZero(t *testing.T, what string, answers []any) {
+	t.Helper()
+	for _, v := range answers {
+		eachList(reflect.ValueOf(v), func(l reflect.Value) {
+			for i := l.Len(); i < l.Cap(); i++ {
+				if !l.Slice(0, l.Cap()).Index(i).IsZero() {
+					t.Fatalf("%s: something stands behind the length of an answer", what)
+				}
+			}
+		})
+	}
+}
