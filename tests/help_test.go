@@ -4,6 +4,7 @@ import (
 	"fmt"
 	"math"
 	"reflect"
+	"sync"
 	"testing"
 )
 
@@ -110,5 +111,22 @@ func checkRoomIsZero(t *testing.T, what string, answers []any) {
 				}
 			}
 		})
+	}
+}
+
+// checkSameAgain asks from many goroutines at once, and fails if one of them is
+// told anything but want.
+func checkSameAgain(t *testing.T, want string, ask func(turn int) string) {
+	t.Helper()
+	again := make([]string, 4)
+	var all sync.WaitGroup
+	for i := range again {
+		all.Go(func() { again[i] = ask(i) })
+	}
+	all.Wait()
+	for _, a := range again {
+		if a != want {
+			t.Fatal("the same arguments have other answers later")
+		}
 	}
 }

@@ -1,7 +1,6 @@
 package tests
 
 import (
-	"sync"
 	"testing"
 
 	"loop.example/g00642/impl"
@@ -154,15 +153,5 @@ func TestTermsNothingIsKept(t *testing.T) {
 	for i, j := 0, len(ledgers)-1; i < j; i, j = i+1, j-1 {
 		ledgers[i], ledgers[j] = ledgers[j], ledgers[i]
 	}
-	again := make([]string, 4)
-	var all sync.WaitGroup
-	for i := range again {
-		all.Go(func() { again[i] = askAll() })
-	}
-	all.Wait()
-	for _, a := range again {
-		if a != first {
-			t.Fatal("the same arguments have other answers later")
-		}
-	}
+	checkSameAgain(t, first, func(turn int) string { return askAll() })
 }

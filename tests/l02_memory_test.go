@@ -2,7 +2,6 @@ package tests
 
 import (
 	"slices"
-	"sync"
 	"testing"
 )
 
@@ -81,15 +80,7 @@ func TestMadeNothingIsKept(t *testing.T) {
 	first := shown(askAll(haves))
 	back := slices.Clone(haves)
 	slices.Reverse(back)
-	again := make([]string, 4)
-	var all sync.WaitGroup
-	for i := range again {
-		all.Go(func() { again[i] = shown(askAll([][][]int{haves, back}[i%2])) })
-	}
-	all.Wait()
-	for _, a := range again {
-		if a != first {
-			t.Fatal("the same arguments have other answers later")
-		}
-	}
+	checkSameAgain(t, first, func(turn int) string {
+		return shown(askAll([][][]int{haves, back}[turn%2]))
+	})
 }
