@@ -6,6 +6,8 @@ import (
 	"reflect"
 	"sync"
 	"testing"
+
+	"loop.example/g00642/impl"
 )
 
 // dice gives the same numbers in every run, so that a failure can be had again.
@@ -114,6 +116,18 @@ func checkRoomIsZero(t *testing.T, what string, answers []any) {
 	}
 }
 
+// checkMemory asks for the same with room behind the arguments, without it, and
+// twice.
+func checkMemory(t *testing.T, what string, roomy, plain func() []any, arguments []any) {
+	t.Helper()
+	got, once := roomy(), plain()
+	check(t, shown(got...), shown(once...), what, "reads what lies behind", arguments)
+	checkOwnMemory(t, what, got, arguments)
+	checkOwnMemory(t, what, once, arguments)
+	checkOwnMemory(t, what+" twice", got, append(roomy(), once...))
+	checkRoomIsZero(t, what, got)
+}
+
 // checkSameAgain asks from many goroutines at once, and fails if one of them is
 // told anything but want.
 func checkSameAgain(t *testing.T, want string, ask func(turn int) string) {
@@ -127,6 +141,44 @@ func checkSameAgain(t *testing.T, want string, ask func(turn int) string) {
 	for _, a := range again {
 		if a != want {
 			t.Fatal("the same arguments have other answers later")
+		}
+	}
+}
+
+// overwrite changes all that can be changed in what was handed over.
+func overwrite(vs ...any) {
+	for _, v := range vs {
+		switch v := v.(type) {
+		case impl.Ledger:
+			for n := range v.L {
+				overwrite(v.L[n].Text)
+				v.L[n] = impl.Term{Kind: -7, A: -7, B: -7}
+			}
+		case impl.Manifest:
+			overwrite(v.Tree)
+		case impl.Tree:
+			overwrite(v.Vec)
+			for n := range v.L {
+				overwrite(v.L[n].Name)
+				v.L[n] = impl.Entry{Val: -7, By: -7, At: -7}
+			}
+		case []impl.File:
+			for n := range v {
+				overwrite(v[n].Name)
+				v[n].Val = -7
+			}
+		case [][]byte:
+			for _, b := range v {
+				overwrite(b)
+			}
+		case []int:
+			for n := range v {
+				v[n] = -7
+			}
+		case []byte:
+			for n := range v {
+				v[n] = '#'
+			}
 		}
 	}
 }

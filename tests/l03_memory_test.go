@@ -73,12 +73,7 @@ func checkTreesMemory(t *testing.T, q, plain treeAsk) {
 	t.Helper()
 	arguments := all(q.a, q.b, q.name, plain.a, plain.b, plain.name)
 	for _, f := range treeCalls() {
-		got, once := f.ask(q), f.ask(plain)
-		check(t, shown(got...), shown(once...), f.name, "reads what lies behind", plain)
-		checkOwnMemory(t, f.name, got, arguments)
-		checkOwnMemory(t, f.name, once, arguments)
-		checkOwnMemory(t, f.name+" twice", got, append(f.ask(q), once...))
-		checkRoomIsZero(t, f.name, got)
+		checkMemory(t, f.name, func() []any { return f.ask(q) }, func() []any { return f.ask(plain) }, arguments)
 	}
 }
 
@@ -113,37 +108,6 @@ func TestTreesAnswersAreOwn(t *testing.T) {
 	x := impl.TreeNew()
 	overwrite(x)
 	check(t, shown(impl.TreeNew()), "{Vec:[0 0 0 0] L:[]};", "TreeNew behind another one that was changed")
-}
-
-// overwrite changes all that can be changed in what was handed over.
-func overwrite(vs ...any) {
-	for _, v := range vs {
-		switch v := v.(type) {
-		case impl.Tree:
-			overwrite(v.Vec)
-			for n := range v.L {
-				overwrite(v.L[n].Name)
-				v.L[n] = impl.Entry{Val: -7, By: -7, At: -7}
-			}
-		case []impl.File:
-			for n := range v {
-				overwrite(v[n].Name)
-				v[n].Val = -7
-			}
-		case [][]byte:
-			for _, b := range v {
-				overwrite(b)
-			}
-		case []int:
-			for n := range v {
-				v[n] = -7
-			}
-		case []byte:
-			for n := range v {
-				v[n] = '#'
-			}
-		}
-	}
 }
 
 // TestTreesNothingIsKept asks the same again behind other things, and from many

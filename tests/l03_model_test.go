@@ -317,6 +317,7 @@ func checkTrees(t *testing.T, q treeAsk) {
 // anything but its fixed answer, on whichever side it stands.
 func refusesTree(t *testing.T, what string, bad impl.Tree) {
 	t.Helper()
+	refusesManifest(t, what, said(0, 1, 0, bad, 0))
 	names := [][]byte{[]byte("x"), []byte("new"), nil}
 	for _, e := range bad.L {
 		names = append(names, e.Name)
