@@ -154,6 +154,13 @@ func overwrite(vs ...any) {
 				overwrite(v.L[n].Text)
 				v.L[n] = impl.Term{Kind: -7, A: -7, B: -7}
 			}
+		case impl.Device:
+			overwrite(v.Tree, v.Heads, v.Proof)
+		case []impl.Manifest:
+			for n := range v {
+				overwrite(v[n])
+				v[n] = impl.Manifest{Author: -7, Seq: -7, Prev: -7, Sig: -7}
+			}
 		case impl.Manifest:
 			overwrite(v.Tree)
 		case impl.Tree:

@@ -164,6 +164,7 @@ func refuses(t *testing.T, what string, l impl.Ledger) {
 	check(t, shown(impl.KeysOf(l)), shown([]int(nil)), what+": KeysOf")
 	refusesToMake(t, what, l)
 	refusesToSign(t, what, l)
+	refusesByLedger(t, what, l)
 	for _, x := range append([]impl.Term{nonce(0), nonce(998), key(998), text(""), hash(0)}, l.L[:min(3, len(l.L))]...) {
 		check(t, shown(impl.TermOk(l, x)), shown(false), what+": TermOk")
 		check(t, shown(impl.Lookup(l, x)), shown(-1), what+": Lookup")

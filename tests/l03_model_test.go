@@ -318,6 +318,7 @@ func checkTrees(t *testing.T, q treeAsk) {
 func refusesTree(t *testing.T, what string, bad impl.Tree) {
 	t.Helper()
 	refusesManifest(t, what, said(0, 1, 0, bad, 0))
+	refusesTreeOfDevice(t, what, bad)
 	names := [][]byte{[]byte("x"), []byte("new"), nil}
 	for _, e := range bad.L {
 		names = append(names, e.Name)

@@ -198,6 +198,7 @@ func refusesManifest(t *testing.T, what string, bad impl.Manifest) {
 
 func refusesBeside(t *testing.T, what string, l impl.Ledger, bad impl.Manifest, others ...impl.Manifest) {
 	t.Helper()
+	refusesToPull(t, what, l, bad, others...)
 	for _, other := range others {
 		for _, f := range sayCalls() {
 			if f.refusal == nil {
