@@ -145,10 +145,44 @@ func checkSameAgain(t *testing.T, want string, ask func(turn int) string) {
 	}
 }
 
+// checkNothingIsKept asks for the same again behind other things, the last one first,
+// and from many goroutines at once.
+func checkNothingIsKept[Q any](t *testing.T, asks []Q, tell func(q Q) string) {
+	t.Helper()
+	tellAll := func(backward bool) string {
+		told := make([]string, len(asks))
+		for n := range asks {
+			if backward {
+				n = len(asks) - 1 - n
+			}
+			told[n] = tell(asks[n])
+		}
+		return shown(told)
+	}
+	checkSameAgain(t, tellAll(false), func(turn int) string { return tellAll(turn%2 == 1) })
+}
+
 // overwrite changes all that can be changed in what was handed over.
 func overwrite(vs ...any) {
 	for _, v := range vs {
 		switch v := v.(type) {
+		case impl.World:
+			overwrite(v.Ledger, v.Store, v.Leaked)
+			for n := range v.Devs {
+				overwrite(v.Devs[n])
+				v.Devs[n] = impl.Device{Id: -7}
+			}
+		case impl.Act:
+			overwrite(v.Name)
+		case []impl.Act:
+			for n := range v {
+				overwrite(v[n])
+				v[n] = impl.Act{Kind: -7, Dev: -7, At: -7, Val: -7}
+			}
+		case []bool:
+			for n := range v {
+				v[n] = !v[n]
+			}
 		case impl.Ledger:
 			for n := range v.L {
 				overwrite(v.L[n].Text)

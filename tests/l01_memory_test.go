@@ -130,28 +130,14 @@ func TestTermsAnswersAreOwn(t *testing.T) {
 	check(t, shown(m.L[1:], there.L[1:], y), shown([]impl.Term{text("zb"), text("zd")}, []impl.Term{text("ay")}, text("ay")), "the answers")
 }
 
-// TestTermsNothingIsKept asks the same again behind other things, and from many
-// goroutines at once.
 func TestTermsNothingIsKept(t *testing.T) {
-	ledgers, terms := memoryLedgers(), memoryTerms()
-	askAll := func() string {
+	checkNothingIsKept(t, memoryLedgers(), func(l impl.Ledger) string {
 		out := ""
-		for _, l := range ledgers {
-			for i, x := range terms {
-				for _, f := range termCalls() {
-					out += shown(f.ask(l, x, i-1, 2, 1)...)
-				}
+		for i, x := range memoryTerms() {
+			for _, f := range termCalls() {
+				out += shown(f.ask(l, x, i-1, 2, 1)...)
 			}
 		}
 		return out
-	}
-	first := askAll()
-	for i, j := 0, len(ledgers)-1; i < j; i, j = i+1, j-1 {
-		ledgers[i], ledgers[j] = ledgers[j], ledgers[i]
-	}
-	askAll()
-	for i, j := 0, len(ledgers)-1; i < j; i, j = i+1, j-1 {
-		ledgers[i], ledgers[j] = ledgers[j], ledgers[i]
-	}
-	checkSameAgain(t, first, func(turn int) string { return askAll() })
+	})
 }

@@ -62,25 +62,15 @@ func TestMadeAnswersAreOwn(t *testing.T) {
 	}
 }
 
-// TestMadeNothingIsKept asks the same again behind other things, and from many
-// goroutines at once.
 func TestMadeNothingIsKept(t *testing.T) {
-	l, haves := sample(), someHaves()
-	askAll := func(haves [][]int) map[string]string {
-		out := map[string]string{}
-		for _, have := range haves {
-			for id := -1; id <= 14; id++ {
-				for _, f := range makeCalls() {
-					out[shown(f.name, have, id)] = shown(f.ask(l, have, id))
-				}
+	l := sample()
+	checkNothingIsKept(t, someHaves(), func(have []int) string {
+		out := ""
+		for id := -1; id <= 14; id++ {
+			for _, f := range makeCalls() {
+				out += shown(f.ask(l, have, id))
 			}
 		}
 		return out
-	}
-	first := shown(askAll(haves))
-	back := slices.Clone(haves)
-	slices.Reverse(back)
-	checkSameAgain(t, first, func(turn int) string {
-		return shown(askAll([][][]int{haves, back}[turn%2]))
 	})
 }

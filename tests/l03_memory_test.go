@@ -1,7 +1,6 @@
 package tests
 
 import (
-	"slices"
 	"testing"
 
 	"loop.example/g00642/impl"
@@ -110,27 +109,17 @@ func TestTreesAnswersAreOwn(t *testing.T) {
 	check(t, shown(impl.TreeNew()), "{Vec:[0 0 0 0] L:[]};", "TreeNew behind another one that was changed")
 }
 
-// TestTreesNothingIsKept asks the same again behind other things, and from many
-// goroutines at once.
 func TestTreesNothingIsKept(t *testing.T) {
 	trees := memoryTrees()
-	back := slices.Clone(trees)
-	slices.Reverse(back)
-	askAll := func(trees []impl.Tree) map[string]string {
-		out := map[string]string{}
-		for _, a := range trees {
-			for _, b := range trees {
-				for _, name := range memoryNames() {
-					q := treeAsk{a, b, 1, name, 5}
-					for _, f := range treeCalls() {
-						out[shown(f.name, q)] = shown(f.ask(q)...)
-					}
+	checkNothingIsKept(t, trees, func(a impl.Tree) string {
+		out := ""
+		for _, b := range trees {
+			for _, name := range memoryNames() {
+				for _, f := range treeCalls() {
+					out += shown(f.ask(treeAsk{a, b, 1, name, 5})...)
 				}
 			}
 		}
 		return out
-	}
-	checkSameAgain(t, shown(askAll(trees)), func(turn int) string {
-		return shown(askAll([][]impl.Tree{trees, back}[turn%2]))
 	})
 }

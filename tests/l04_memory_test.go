@@ -130,22 +130,12 @@ func TestSaidAnswersAreOwn(t *testing.T) {
 	}
 }
 
-// TestSaidNothingIsKept asks the same again behind other things, and from many
-// goroutines at once.
 func TestSaidNothingIsKept(t *testing.T) {
-	asks := memoryAsks()
-	back := slices.Clone(asks)
-	slices.Reverse(back)
-	askAll := func(asks []sayAsk) map[string]string {
-		out := map[string]string{}
-		for _, q := range asks {
-			for _, f := range sayCalls() {
-				out[shown(f.name, q)] = shown(f.ask(q)...)
-			}
+	checkNothingIsKept(t, memoryAsks(), func(q sayAsk) string {
+		out := ""
+		for _, f := range sayCalls() {
+			out += shown(f.ask(q)...)
 		}
 		return out
-	}
-	checkSameAgain(t, shown(askAll(asks)), func(turn int) string {
-		return shown(askAll([][]sayAsk{asks, back}[turn%2]))
 	})
 }

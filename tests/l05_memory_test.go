@@ -171,22 +171,12 @@ func TestDevicesAnswersAreOwn(t *testing.T) {
 	}
 }
 
-// TestDevicesNothingIsKept asks the same again behind other things, and from many
-// goroutines at once.
 func TestDevicesNothingIsKept(t *testing.T) {
-	asks := memoryDeviceAsks(t)
-	back := slices.Clone(asks)
-	slices.Reverse(back)
-	askAll := func(asks []deviceAsk) map[string]string {
-		out := map[string]string{}
-		for _, q := range asks {
-			for _, f := range deviceCalls() {
-				out[shown(f.name, q)] = shown(f.ask(q)...)
-			}
+	checkNothingIsKept(t, memoryDeviceAsks(t), func(q deviceAsk) string {
+		out := ""
+		for _, f := range deviceCalls() {
+			out += shown(f.ask(q)...)
 		}
 		return out
-	}
-	checkSameAgain(t, shown(askAll(asks)), func(turn int) string {
-		return shown(askAll([][]deviceAsk{asks, back}[turn%2]))
 	})
 }

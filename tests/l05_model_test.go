@@ -245,6 +245,7 @@ func checkDevices(t *testing.T, q deviceAsk) {
 // else it is asked with is what it would take of a good one.
 func refusesDevice(t *testing.T, what string, l impl.Ledger, bad impl.Device) {
 	t.Helper()
+	refusesInWorld(t, what, l, bad)
 	fresh, _ := modelNew(1)
 	ms := append([]impl.Manifest{{}}, bad.Heads[:min(len(bad.Heads), 5)]...)
 	ms = append(ms, bad.Proof[:min(len(bad.Proof), 5)]...)
@@ -273,6 +274,7 @@ func refusesDevice(t *testing.T, what string, l impl.Ledger, bad impl.Device) {
 // it is given, anything but its fixed answer, as l is not LedgerOk.
 func refusesByLedger(t *testing.T, what string, l impl.Ledger) {
 	t.Helper()
+	refusesWorld(t, what, worldOf(l))
 	_, two := twoSaid()
 	for id := range 2 {
 		fresh, _ := modelNew(id)
@@ -295,6 +297,7 @@ func refusesTreeOfDevice(t *testing.T, what string, bad impl.Tree) {
 // it, or may have it as a head or as a part of its proof.
 func refusesToPull(t *testing.T, what string, l impl.Ledger, bad impl.Manifest, others ...impl.Manifest) {
 	t.Helper()
+	refusesInStore(t, what, l, bad)
 	top := treeOf(vec(1000, 1000, 1000, 1000))
 	devices := []impl.Device{device(2, impl.TreeNew())}
 	for _, o := range others {
