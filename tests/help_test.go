@@ -145,6 +145,20 @@ func checkSameAgain(t *testing.T, want string, ask func(turn int) string) {
 	}
 }
 
+// checkAnswersAreOwn changes an answer, and then all that was asked with, which fresh
+// gives in new memory each time.
+func checkAnswersAreOwn[Q any](t *testing.T, what string, fresh func() Q, ask, arguments func(q Q) []any) {
+	t.Helper()
+	q := fresh()
+	overwrite(ask(q)...)
+	check(t, shown(q), shown(fresh()), what+": the arguments")
+	got := ask(q)
+	kept := shown(got...)
+	overwrite(arguments(q)...)
+	check(t, shown(got...), kept, what+": the answer")
+	check(t, shown(ask(fresh())...), kept, what+": behind another one that was changed")
+}
+
 // checkNothingIsKept asks for the same again behind other things, the last one first,
 // and from many goroutines at once.
 func checkNothingIsKept[Q any](t *testing.T, asks []Q, tell func(q Q) string) {

@@ -67,10 +67,12 @@ func TestTreesMemory(t *testing.T) {
 	}
 }
 
+func (q treeAsk) arguments() []any { return all(q.a, q.b, q.name) }
+
 // checkTreesMemory asks for the same with room behind, without it, and twice.
 func checkTreesMemory(t *testing.T, q, plain treeAsk) {
 	t.Helper()
-	arguments := all(q.a, q.b, q.name, plain.a, plain.b, plain.name)
+	arguments := append(q.arguments(), plain.arguments()...)
 	for _, f := range treeCalls() {
 		checkMemory(t, f.name, func() []any { return f.ask(q) }, func() []any { return f.ask(plain) }, arguments)
 	}
@@ -91,22 +93,11 @@ func TestTreesOneForBoth(t *testing.T) {
 	}
 }
 
-// TestTreesAnswersAreOwn changes an answer, and then an argument.
 func TestTreesAnswersAreOwn(t *testing.T) {
 	fresh := func() treeAsk { return treeAsk{manyCopies(), manyCopies(), 0, []byte("b"), 8} }
 	for _, f := range treeCalls() {
-		q := fresh()
-		got := f.ask(q)
-		overwrite(got...)
-		check(t, shown(q), shown(fresh()), f.name+": the arguments")
-		got = f.ask(q)
-		kept := shown(got...)
-		overwrite(q.a, q.b, q.name)
-		check(t, shown(got...), kept, f.name+": the answer")
+		checkAnswersAreOwn(t, f.name, fresh, f.ask, treeAsk.arguments)
 	}
-	x := impl.TreeNew()
-	overwrite(x)
-	check(t, shown(impl.TreeNew()), "{Vec:[0 0 0 0] L:[]};", "TreeNew behind another one that was changed")
 }
 
 func TestTreesNothingIsKept(t *testing.T) {

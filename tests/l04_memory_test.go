@@ -61,15 +61,17 @@ func TestSaidMemory(t *testing.T) {
 	}
 }
 
+func (q sayAsk) arguments() []any { return all(q.l, q.m, q.n, q.b) }
+
 // checkSaidMemory asks for the same with room behind, without it, and twice.
 func checkSaidMemory(t *testing.T, q, plain sayAsk) {
 	t.Helper()
-	arguments := all(q.l, q.m, q.n, q.b, plain.l, plain.m, plain.n, plain.b)
-	before := shownWithRoom(q.l, q.m, q.n, q.b)
+	arguments := append(q.arguments(), plain.arguments()...)
+	before := shownWithRoom(arguments...)
 	for _, f := range sayCalls() {
 		checkMemory(t, f.name, func() []any { return f.ask(q) }, func() []any { return f.ask(plain) }, arguments)
 	}
-	check(t, shownWithRoom(q.l, q.m, q.n, q.b), before, "something is written into an argument")
+	check(t, shownWithRoom(arguments...), before, "something is written into an argument")
 }
 
 // TestSaidRoomBehind: what is to be signed stands behind the length of the ledger,
@@ -111,22 +113,13 @@ func TestSaidOneForBoth(t *testing.T) {
 	check(t, shown(impl.SigOk(l, m)), "true;", "a name in the ledger's memory")
 }
 
-// TestSaidAnswersAreOwn changes an answer, and then an argument.
 func TestSaidAnswersAreOwn(t *testing.T) {
 	fresh := func() sayAsk {
 		l, two := twoSaid()
 		return sayAsk{l, two[0], two[1], rawBytes(two[0])}
 	}
 	for _, f := range sayCalls() {
-		q := fresh()
-		got := f.ask(q)
-		overwrite(got...)
-		check(t, shown(q), shown(fresh()), f.name+": the arguments")
-		got = f.ask(q)
-		kept := shown(got...)
-		overwrite(q.l, q.m, q.n, q.b)
-		check(t, shown(got...), kept, f.name+": the answer")
-		check(t, shown(f.ask(fresh())...), kept, f.name+": behind another one that was changed")
+		checkAnswersAreOwn(t, f.name, fresh, f.ask, sayAsk.arguments)
 	}
 }
 

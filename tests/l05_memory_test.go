@@ -70,10 +70,12 @@ func TestDevicesMemory(t *testing.T) {
 	}
 }
 
+func (q deviceAsk) arguments() []any { return all(q.l, q.d, q.e, q.m, q.ms, q.name) }
+
 // checkDevicesMemory asks for the same with room behind, without it, and twice.
 func checkDevicesMemory(t *testing.T, q, plain deviceAsk) {
 	t.Helper()
-	arguments := all(q.l, q.d, q.e, q.m, q.ms, q.name, plain.l, plain.d, plain.e, plain.m, plain.ms, plain.name)
+	arguments := append(q.arguments(), plain.arguments()...)
 	before := shownWithRoom(arguments...)
 	for _, f := range deviceCalls() {
 		checkMemory(t, f.name, func() []any { return f.ask(q) }, func() []any { return f.ask(plain) }, arguments)
@@ -145,7 +147,6 @@ func TestDevicesHeadsInProof(t *testing.T) {
 	checkOwnMemory(t, "Pull", all(got), all(d, f[1]))
 }
 
-// TestDevicesAnswersAreOwn changes an answer, and then an argument.
 func TestDevicesAnswersAreOwn(t *testing.T) {
 	freshAsk := func(n int) deviceAsk {
 		l, h, f := fourSaid(t)
@@ -158,15 +159,7 @@ func TestDevicesAnswersAreOwn(t *testing.T) {
 	}
 	for _, f := range deviceCalls() {
 		for n := range 3 {
-			q := freshAsk(n)
-			got := f.ask(q)
-			overwrite(got...)
-			check(t, shown(q), shown(freshAsk(n)), f.name+": the arguments")
-			got = f.ask(q)
-			kept := shown(got...)
-			overwrite(q.l, q.d, q.e, q.m, q.ms, q.name)
-			check(t, shown(got...), kept, f.name+": the answer")
-			check(t, shown(f.ask(freshAsk(n))...), kept, f.name+": behind another one that was changed")
+			checkAnswersAreOwn(t, f.name, func() deviceAsk { return freshAsk(n) }, f.ask, deviceAsk.arguments)
 		}
 	}
 }

@@ -81,10 +81,12 @@ func TestWorldsMemory(t *testing.T) {
 	}
 }
 
+func (q worldAsk) arguments() []any { return all(q.w, q.a, q.acts) }
+
 // checkWorldsMemory asks for the same with room behind, without it, and twice.
 func checkWorldsMemory(t *testing.T, q, plain worldAsk) {
 	t.Helper()
-	arguments := all(q.w, q.a, q.acts, plain.w, plain.a, plain.acts)
+	arguments := append(q.arguments(), plain.arguments()...)
 	before := shownWithRoom(arguments...)
 	for _, f := range worldCalls() {
 		checkMemory(t, f.name, func() []any { return f.ask(q) }, func() []any { return f.ask(plain) }, arguments)
@@ -176,7 +178,6 @@ func TestWorldsAsItWas(t *testing.T) {
 	}
 }
 
-// TestWorldsAnswersAreOwn changes an answer, and then an argument.
 func TestWorldsAnswersAreOwn(t *testing.T) {
 	freshAsk := func(n int) worldAsk {
 		acts, _ := story()
@@ -188,15 +189,7 @@ func TestWorldsAnswersAreOwn(t *testing.T) {
 	}
 	for _, f := range worldCalls() {
 		for n := range 14 {
-			q := freshAsk(n)
-			got := f.ask(q)
-			overwrite(got...)
-			check(t, shown(q), shown(freshAsk(n)), f.name+": the arguments")
-			got = f.ask(q)
-			kept := shown(got...)
-			overwrite(q.w, q.a, q.acts)
-			check(t, shown(got...), kept, f.name+": the answer")
-			check(t, shown(f.ask(freshAsk(n))...), kept, f.name+": behind another one that was changed")
+			checkAnswersAreOwn(t, f.name, func() worldAsk { return freshAsk(n) }, f.ask, worldAsk.arguments)
 		}
 	}
 }
